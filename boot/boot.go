@@ -1,0 +1,67 @@
+// Package boot: a machine that boots over a network, a step at a time: see DOC.md.
+package boot
+
+import (
+	"netboot/api"
+	"netboot/digest"
+	"netboot/wire"
+)
+
+// Hash: SHA-256. Check: the sum of the internet (P2).
+func Hash(s string) string {
+	sum := digest.Of(s)
+	return string(sum[:])
+}
+
+func Check(s string) uint16 { return wire.Check(s) }
+
+// ReadEther, WriteEther: frames. ReadARP, WriteARP: what they carry (P3).
+func ReadEther(s string) (api.Ether, api.Errno) { return wire.ReadEther(s) }
+
+func WriteEther(e api.Ether) (string, api.Errno) { return wire.WriteEther(e) }
+
+func ReadARP(s string) (api.ARP, api.Errno) { return wire.ReadARP(s) }
+
+func WriteARP(a api.ARP) (string, api.Errno) { return wire.WriteARP(a) }
+
+// ReadIP, WriteIP: packets. ReadUDP, WriteUDP: datagrams (P4).
+func ReadIP(s string) (api.IPv4, api.Errno) { return api.IPv4{}, api.OK }
+
+func WriteIP(p api.IPv4) (string, api.Errno) { return "", api.OK }
+
+func ReadUDP(s string, from api.IP, to api.IP) (api.UDP, api.Errno) { return api.UDP{}, api.OK }
+
+func WriteUDP(u api.UDP, from api.IP, to api.IP) (string, api.Errno) { return "", api.OK }
+
+// ReadDHCP, WriteDHCP: messages of DHCP. ReadTFTP, WriteTFTP: of TFTP (P5).
+func ReadDHCP(s string) (api.DHCP, api.Errno) { return api.DHCP{}, api.OK }
+
+func WriteDHCP(m api.DHCP) (string, api.Errno) { return "", api.OK }
+
+func ReadTFTP(s string) (api.TFTP, api.Errno) { return api.TFTP{}, api.OK }
+
+func WriteTFTP(m api.TFTP) (string, api.Errno) { return "", api.OK }
+
+// Boot: a machine.
+type Boot struct{}
+
+// New: of a configuration (P6).
+func New(c api.Config) (*Boot, api.Errno) { return nil, api.OK }
+
+// Put: a frame comes to the card (P6).
+func (b *Boot) Put(frame string) bool { return false }
+
+// Take: a frame that is to be sent (P6).
+func (b *Boot) Take() (string, bool) { return "", false }
+
+// Poll: frames are looked at (P6 to P10).
+func (b *Boot) Poll(n int) int { return 0 }
+
+// Tick: time goes on (P6 to P10).
+func (b *Boot) Tick(draw uint32) {}
+
+// Look: what there is (P6).
+func (b *Boot) Look() api.Look { return api.Look{} }
+
+// Image: the image, if it is there whole (P6).
+func (b *Boot) Image() (string, bool) { return "", false }
