@@ -25,13 +25,17 @@ func ReadARP(s string) (api.ARP, api.Errno) { return wire.ReadARP(s) }
 func WriteARP(a api.ARP) (string, api.Errno) { return wire.WriteARP(a) }
 
 // ReadIP, WriteIP: packets. ReadUDP, WriteUDP: datagrams (P4).
-func ReadIP(s string) (api.IPv4, api.Errno) { return api.IPv4{}, api.OK }
+func ReadIP(s string) (api.IPv4, api.Errno) { return wire.ReadIP(s) }
 
-func WriteIP(p api.IPv4) (string, api.Errno) { return "", api.OK }
+func WriteIP(p api.IPv4) (string, api.Errno) { return wire.WriteIP(p) }
 
-func ReadUDP(s string, from api.IP, to api.IP) (api.UDP, api.Errno) { return api.UDP{}, api.OK }
+func ReadUDP(s string, from api.IP, to api.IP) (api.UDP, api.Errno) {
+	return wire.ReadUDP(s, from, to)
+}
 
-func WriteUDP(u api.UDP, from api.IP, to api.IP) (string, api.Errno) { return "", api.OK }
+func WriteUDP(u api.UDP, from api.IP, to api.IP) (string, api.Errno) {
+	return wire.WriteUDP(u, from, to)
+}
 
 // ReadDHCP, WriteDHCP: messages of DHCP. ReadTFTP, WriteTFTP: of TFTP (P5).
 func ReadDHCP(s string) (api.DHCP, api.Errno) { return api.DHCP{}, api.OK }

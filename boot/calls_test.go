@@ -15,6 +15,8 @@ func odd() []string {
 		frameHead + "\x08\x00hello",
 		frameHead + "\x08\x06" + arpFirst + "\x00\x01" + arpRest,
 		arpFirst + "\x00\x02" + arpRest,
+		ipLong(25) + "hello",
+		udpWith(68, 67, 13, "hello"),
 		"\x00\x06BLKSIZE\x008\x00",
 	}
 	out := []string{strings.Repeat("\xff", 70000), strings.Repeat("\x00", 70000)}

@@ -23,18 +23,19 @@ func read[T any](s string, how func(*reader) T) (t T, e api.Errno) {
 // get: what how reads; it leaves with e if that may not be.
 func get[T any](r *reader, how func(*reader) T, may func(T) bool, e api.Errno) T {
 	t := how(r)
-	if !may(t) {
-		panic(e)
-	}
+	must(may(t), e)
 	return t
 }
 
-// need: at least n bytes are still to be read. A format asks for all its bytes at first where too few of them are told ahead of wrong ones.
-func (r *reader) need(n int) {
-	if len(r.rest) < n {
-		panic(api.ErrShort)
+// must: it leaves with e if what must hold does not.
+func must(holds bool, e api.Errno) {
+	if !holds {
+		panic(e)
 	}
 }
+
+// need: at least n bytes are still to be read. A format asks for all its bytes at first where too few of them are told ahead of wrong ones.
+func (r *reader) need(n int) { must(len(r.rest) >= n, api.ErrShort) }
 
 func (r *reader) take(n int) string {
 	r.need(n)
@@ -49,9 +50,19 @@ func (r *reader) text(n int) string { return strings.Clone(r.take(n)) }
 // remaining: all that is still to be read.
 func (r *reader) remaining() string { return r.text(len(r.rest)) }
 
+func (r *reader) byte() uint8 { return r.take(1)[0] }
+
 func (r *reader) word() uint16 {
 	b := r.take(2)
 	return uint16(b[0])<<8 | uint16(b[1])
+}
+
+// length: a length in a head, which counts the head, too, and no more bytes than there are.
+func (r *reader) length(head, all int) int {
+	n := int(r.word())
+	must(n >= head, api.ErrForm)
+	must(n <= all, api.ErrShort)
+	return n
 }
 
 func (r *reader) address() api.IP {

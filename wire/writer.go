@@ -11,6 +11,8 @@ func (w *writer) texts(ss ...string) {
 	}
 }
 
+func (w *writer) bytes(bs ...uint8) { w.out = append(w.out, bs...) }
+
 func (w *writer) words(ns ...uint16) {
 	for _, n := range ns {
 		w.out = append(w.out, byte(n>>8), byte(n))
@@ -34,6 +36,11 @@ func (w *writer) fill(n int) {
 	for len(w.out) < n {
 		w.out = append(w.out, 0)
 	}
+}
+
+// wordAt: n stands at a place that was written already, since it hangs on what stands behind that.
+func (w *writer) wordAt(at int, n uint16) {
+	w.out[at], w.out[at+1] = byte(n>>8), byte(n)
 }
 
 func (w *writer) text() string { return string(w.out) }
