@@ -38,13 +38,13 @@ func WriteUDP(u api.UDP, from api.IP, to api.IP) (string, api.Errno) {
 }
 
 // ReadDHCP, WriteDHCP: messages of DHCP. ReadTFTP, WriteTFTP: of TFTP (P5).
-func ReadDHCP(s string) (api.DHCP, api.Errno) { return api.DHCP{}, api.OK }
+func ReadDHCP(s string) (api.DHCP, api.Errno) { return wire.ReadDHCP(s) }
 
-func WriteDHCP(m api.DHCP) (string, api.Errno) { return "", api.OK }
+func WriteDHCP(m api.DHCP) (string, api.Errno) { return wire.WriteDHCP(m) }
 
-func ReadTFTP(s string) (api.TFTP, api.Errno) { return api.TFTP{}, api.OK }
+func ReadTFTP(s string) (api.TFTP, api.Errno) { return wire.ReadTFTP(s) }
 
-func WriteTFTP(m api.TFTP) (string, api.Errno) { return "", api.OK }
+func WriteTFTP(m api.TFTP) (string, api.Errno) { return wire.WriteTFTP(m) }
 
 // Boot: a machine.
 type Boot struct{}

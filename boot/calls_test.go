@@ -4,6 +4,7 @@ import (
 	"strings"
 	"sync"
 	"testing"
+	"unsafe"
 
 	"netboot/api"
 	"netboot/boot"
@@ -17,6 +18,12 @@ func odd() []string {
 		arpFirst + "\x00\x02" + arpRest,
 		ipLong(25) + "hello",
 		udpWith(68, 67, 13, "hello"),
+		dhcpAreas(piece(3, "h")+"\xff", piece(1, "f")+"\xff", piece(53, "\x05")+piece(52, "\x03")+"\xff"),
+		written(piece(53, "\x05") + "\xff"),
+		"\x00\x01k\x00octet\x00tsize\x000\x00",
+		"\x00\x03\x00\x01data",
+		"\x00\x04\x00\x01",
+		"\x00\x05\x00\x01no\x00",
 		"\x00\x06BLKSIZE\x008\x00",
 	}
 	out := []string{strings.Repeat("\xff", 70000), strings.Repeat("\x00", 70000)}
@@ -52,9 +59,9 @@ func readAll(t *testing.T, s string) {
 	u, e := boot.ReadUDP(s, 1, 2)
 	wantZero(t, "ReadUDP", u == api.UDP{}, e)
 	d, e := boot.ReadDHCP(s)
-	wantZero(t, "ReadDHCP", d.Xid == 0 && d.Card == api.MAC{} && len(d.Options) == 0, e)
+	wantZero(t, "ReadDHCP", sameMessage(d, api.DHCP{}), e)
 	m, e := boot.ReadTFTP(s)
-	wantZero(t, "ReadTFTP", m.Op == 0 && m.Text == "" && m.Data == "" && len(m.Fields) == 0, e)
+	wantZero(t, "ReadTFTP", sameTFTP(m, api.TFTP{}), e)
 }
 
 func writeAll(t *testing.T, s string, n uint16) {
@@ -101,6 +108,40 @@ func TestCallsDoNotHangOnEachOther(t *testing.T) {
 		})
 	}
 	all.Wait()
+}
+
+// An answer shares no memory with what was handed in.
+func TestAnswersAreNewMemory(t *testing.T) {
+	apart := func(call, s, answer string) {
+		t.Helper()
+		first, at := uintptr(unsafe.Pointer(unsafe.StringData(s))), uintptr(unsafe.Pointer(unsafe.StringData(answer)))
+		if answer == "" || at >= first && at < first+uintptr(len(s)) {
+			t.Errorf("P1: the answer %q of %s shares memory with what was handed in", answer, call)
+		}
+	}
+	s := strings.Clone(frameHead + "\x08\x00hello")
+	f, _ := boot.ReadEther(s)
+	apart("ReadEther", s, f.Load)
+	s = ipLong(25) + "hello"
+	p, _ := boot.ReadIP(s)
+	apart("ReadIP", s, p.Load)
+	s = udpWith(68, 67, 13, "hello")
+	u, _ := boot.ReadUDP(s, udpFrom, udpTo)
+	apart("ReadUDP", s, u.Load)
+	s = dhcpWith(piece(12, "hello") + "\xff")
+	d, _ := boot.ReadDHCP(s)
+	apart("ReadDHCP", s, d.Options[0].Data)
+	s = strings.Clone("\x00\x01kernel\x00octet\x00tsize\x001234\x00")
+	m, _ := boot.ReadTFTP(s)
+	apart("ReadTFTP", s, m.Text)
+	apart("ReadTFTP", s, m.Fields[0].Name)
+	apart("ReadTFTP", s, m.Fields[0].Value)
+	s = strings.Clone("\x00\x03\x00\x01hello")
+	m, _ = boot.ReadTFTP(s)
+	apart("ReadTFTP", s, m.Data)
+	s = strings.Clone("\x00\x05\x00\x01hello\x00")
+	m, _ = boot.ReadTFTP(s)
+	apart("ReadTFTP", s, m.Text)
 }
 
 func TestCallsOfAMachine(t *testing.T) {

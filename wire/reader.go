@@ -65,11 +65,13 @@ func (r *reader) length(head, all int) int {
 	return n
 }
 
-func (r *reader) address() api.IP {
+func (r *reader) long() uint32 {
 	high := r.word()
 	low := r.word()
-	return api.IP(high)<<16 | api.IP(low)
+	return uint32(high)<<16 | uint32(low)
 }
+
+func (r *reader) address() api.IP { return api.IP(r.long()) }
 
 func (r *reader) card() api.MAC {
 	var m api.MAC

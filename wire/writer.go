@@ -19,9 +19,15 @@ func (w *writer) words(ns ...uint16) {
 	}
 }
 
+func (w *writer) longs(ns ...uint32) {
+	for _, n := range ns {
+		w.words(uint16(n>>16), uint16(n))
+	}
+}
+
 func (w *writer) addresses(as ...api.IP) {
 	for _, a := range as {
-		w.words(uint16(a>>16), uint16(a))
+		w.longs(uint32(a))
 	}
 }
 
