@@ -4,6 +4,7 @@ package boot
 import (
 	"netboot/api"
 	"netboot/digest"
+	"netboot/machine"
 	"netboot/wire"
 )
 
@@ -47,25 +48,39 @@ func ReadTFTP(s string) (api.TFTP, api.Errno) { return wire.ReadTFTP(s) }
 func WriteTFTP(m api.TFTP) (string, api.Errno) { return wire.WriteTFTP(m) }
 
 // Boot: a machine.
-type Boot struct{}
+type Boot struct{ made *machine.Machine }
+
+// machine: the one that New made. Where New made none there is one without room for frames, of which nothing is kept: the calls answer all the same.
+func (b *Boot) machine() *machine.Machine {
+	if b == nil || b.made == nil {
+		return new(machine.Machine)
+	}
+	return b.made
+}
 
 // New: of a configuration (P6).
-func New(c api.Config) (*Boot, api.Errno) { return nil, api.OK }
+func New(c api.Config) (*Boot, api.Errno) {
+	m, e := machine.New(c)
+	if e != api.OK {
+		return nil, e
+	}
+	return &Boot{m}, api.OK
+}
 
 // Put: a frame comes to the card (P6).
-func (b *Boot) Put(frame string) bool { return false }
+func (b *Boot) Put(frame string) bool { return b.machine().Put(frame) }
 
 // Take: a frame that is to be sent (P6).
-func (b *Boot) Take() (string, bool) { return "", false }
+func (b *Boot) Take() (string, bool) { return b.machine().Take() }
 
 // Poll: frames are looked at (P6 to P10).
-func (b *Boot) Poll(n int) int { return 0 }
+func (b *Boot) Poll(n int) int { return b.machine().Poll(n) }
 
 // Tick: time goes on (P6 to P10).
-func (b *Boot) Tick(draw uint32) {}
+func (b *Boot) Tick(draw uint32) { b.machine().Tick(draw) }
 
 // Look: what there is (P6).
-func (b *Boot) Look() api.Look { return api.Look{} }
+func (b *Boot) Look() api.Look { return b.machine().Look() }
 
 // Image: the image, if it is there whole (P6).
-func (b *Boot) Image() (string, bool) { return "", false }
+func (b *Boot) Image() (string, bool) { return b.machine().Image() }

@@ -50,6 +50,45 @@ func (o Options) Data(code uint8) (string, bool) {
 	return string(data), found
 }
 
+// Byte: the byte that the data of a code are; false, if they are not one.
+func (o Options) Byte(code uint8) (uint8, bool) { return whole(o, code, (*reader).byte) }
+
+// Long: the number that the data of a code are; false, if they are not four bytes.
+func (o Options) Long(code uint8) (uint32, bool) { return whole(o, code, (*reader).long) }
+
+// Address: the address that the data of a code are; false, if they are not four bytes.
+func (o Options) Address(code uint8) (api.IP, bool) { return whole(o, code, (*reader).address) }
+
+// FirstAddress: the one that the data of a code begin with; 0, if they are fewer than four bytes.
+func (o Options) FirstAddress(code uint8) api.IP {
+	data, _ := o.Data(code)
+	a, _ := read(data, (*reader).address)
+	return a
+}
+
+// whole: what how reads of the data of a code; false, if that is not all of them.
+func whole[T any](o Options, code uint8, how func(*reader) T) (T, bool) {
+	data, _ := o.Data(code)
+	t, e := read(data, func(r *reader) T {
+		t := how(r)
+		must(r.rest == "", api.ErrForm)
+		return t
+	})
+	return t, e == api.OK
+}
+
+// ByteOption: one with these bytes.
+func ByteOption(code uint8, data ...uint8) api.Option {
+	return api.Option{Code: code, Data: string(data)}
+}
+
+// AddressOption: one with these addresses.
+func AddressOption(code uint8, as ...api.IP) api.Option {
+	var w writer
+	w.addresses(as...)
+	return api.Option{Code: code, Data: w.text()}
+}
+
 // areas: those of the two where more options stand, in the order in which they are read.
 func (o Options) areas(host, file string) []string {
 	data, found := o.Data(optionAreas)

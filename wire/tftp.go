@@ -39,7 +39,7 @@ func (r *reader) tftp() api.TFTP {
 	m.Op = r.word()
 	switch m.Op {
 	case TFTPRead:
-		m.Text = get(r, (*reader).ended, isName, api.ErrForm)
+		m.Text = get(r, (*reader).ended, IsName, api.ErrForm)
 		get(r, (*reader).ended, isMode, api.ErrForm)
 		fallthrough
 	case TFTPOptions:
@@ -73,8 +73,8 @@ func (r *reader) fields() Fields {
 	var fs Fields
 	for r.rest != "" {
 		var f api.Field
-		f.Name = small(get(r, (*reader).ended, isName, api.ErrForm))
-		f.Value = get(r, (*reader).ended, isName, api.ErrForm)
+		f.Name = small(get(r, (*reader).ended, IsName, api.ErrForm))
+		f.Value = get(r, (*reader).ended, IsName, api.ErrForm)
 		fs = append(fs, f)
 	}
 	must(fs.differ(), api.ErrForm)
@@ -137,7 +137,7 @@ func (w *writer) fields(fs Fields, most int) {
 func mayBeTold(m api.TFTP) bool {
 	switch m.Op {
 	case TFTPRead:
-		if !isName(m.Text) {
+		if !IsName(m.Text) {
 			return false
 		}
 		fallthrough
@@ -154,7 +154,7 @@ func mayBeTold(m api.TFTP) bool {
 // mayBeTold: names and values are right, and no name comes twice.
 func (fs Fields) mayBeTold() bool {
 	for _, f := range fs {
-		if !isName(f.Name) || small(f.Name) != f.Name || !isName(f.Value) {
+		if !IsName(f.Name) || small(f.Name) != f.Name || !IsName(f.Value) {
 			return false
 		}
 	}
@@ -171,8 +171,8 @@ func (fs Fields) differ() bool {
 	return len(slices.Compact(names)) == len(fs)
 }
 
-// isName: also of values.
-func isName(s string) bool {
+// IsName: also of values, and of images.
+func IsName(s string) bool {
 	for i := range len(s) {
 		if s[i] < leastLetter || s[i] > mostLetter {
 			return false
