@@ -27,10 +27,11 @@ func (m *Machine) tickLease() {
 		m.lease.xid = m.draw
 		m.enter(api.Selecting)
 	case api.Selecting, api.Requesting:
-		m.tickWait()
+		m.tickWait(m.lease.wait, (*Machine).press)
 	case api.Probing:
 		if m.now >= m.lease.granted+probeTicks {
 			m.lease.state = api.Bound
+			m.askForImage()
 		}
 	}
 }
@@ -40,16 +41,6 @@ func (m *Machine) enter(state api.Lease) {
 	m.lease.state = state
 	m.lease.wait = wait{}
 	m.press()
-}
-
-func (m *Machine) tickWait() {
-	switch {
-	case m.now < m.lease.wait.until:
-	case m.lease.wait.sends == api.MaxSends:
-		m.fail()
-	default:
-		m.press()
-	}
 }
 
 // press: what the state waits for an answer to is said, for the first time or again.

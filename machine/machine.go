@@ -10,6 +10,7 @@ import (
 
 // Machine: of a configuration. (An empty one is of none: it has no room for frames.)
 type Machine struct {
+	cache
 	config api.Config
 	now    int
 	draw   uint32            // the last one
@@ -20,6 +21,7 @@ type Machine struct {
 	boots  int               // attempts that have failed
 	lease  lease
 	phase  api.Phase
+	fetch  fetch
 	image  []byte // as much of it as has come
 }
 
@@ -29,7 +31,7 @@ func New(c api.Config) (*Machine, api.Errno) {
 		return nil, api.ErrConfig
 	}
 	c.Name, c.Digest = strings.Clone(c.Name), strings.Clone(c.Digest)
-	return &Machine{config: c, came: ring.New[string](c.Rx), goes: ring.New[string](c.Tx)}, api.OK
+	return &Machine{cache: cache{}, config: c, came: ring.New[string](c.Rx), goes: ring.New[string](c.Tx)}, api.OK
 }
 
 // Put: a frame comes to the card; false, if it has no room there.
@@ -59,7 +61,9 @@ func (m *Machine) Tick(draw uint32) {
 	m.now++
 	m.draw = draw
 	if !m.ended() {
+		m.tickCache()
 		m.tickLease()
+		m.tickImage()
 	}
 }
 
@@ -73,6 +77,7 @@ func (m *Machine) Look() api.Look {
 		Boots:   m.boots,
 		Bytes:   len(m.image),
 		Lost:    m.lost,
+		Cached:  len(m.cache),
 	}
 }
 
@@ -97,8 +102,10 @@ func (m *Machine) address() api.IP {
 
 // drop: all of an attempt. Frames that wait go on waiting.
 func (m *Machine) drop() {
+	m.cache = cache{}
 	m.lease = lease{}
 	m.phase = api.Idle
+	m.fetch = fetch{}
 	m.image = nil
 }
 

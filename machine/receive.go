@@ -43,16 +43,6 @@ func (m *Machine) frame(s string) {
 	handOn(m, frameHands(), f.Type, f.Load)
 }
 
-func (m *Machine) arpCame(load string) {
-	a, e := wire.ReadARP(load)
-	if e != api.OK {
-		return
-	}
-	if m.lease.state == api.Probing && a.FromIP == m.lease.address && a.FromMAC != m.config.Card {
-		m.decline()
-	}
-}
-
 func (m *Machine) packetCame(load string) {
 	p, e := wire.ReadIP(load)
 	if e != api.OK || p.Proto != wire.UDP {
@@ -64,5 +54,7 @@ func (m *Machine) packetCame(load string) {
 	}
 	if u.To == portDHCP {
 		m.dhcpCame(u.Load)
+	} else {
+		m.tftpCame(p, u)
 	}
 }

@@ -1,5 +1,7 @@
 package machine
 
+import "netboot/api"
+
 // wait: for an answer to something that is sent again and again.
 type wait struct {
 	sends int // how often it was sent
@@ -10,4 +12,15 @@ type wait struct {
 func (m *Machine) waitMore(w wait) wait {
 	ticks := 2<<w.sends + int(m.draw%3) - 1
 	return wait{sends: w.sends + 1, until: m.now + ticks}
+}
+
+// tickWait: when a wait is over, what it is behind is sent again, or was sent often enough.
+func (m *Machine) tickWait(w wait, again func(*Machine)) {
+	switch {
+	case m.now < w.until:
+	case w.sends == api.MaxSends:
+		m.fail()
+	default:
+		again(m)
+	}
 }
