@@ -73,9 +73,13 @@ func TestKindsInEachLease(t *testing.T) {
 		{api.Requesting, ack}:  api.Probing,
 		{api.Requesting, nak}:  api.Off,
 		{api.Bound, nak}:       api.Off,
+		{api.Renewing, ack}:    api.Bound,
+		{api.Renewing, nak}:    api.Off,
+		{api.Rebinding, ack}:   api.Bound,
+		{api.Rebinding, nak}:   api.Off,
 	}
 	sent := map[api.Lease]string{api.Requesting: aRequest(1, theXid), api.Probing: whoHas()}
-	for lease := api.Off; lease <= api.Bound; lease++ {
+	for lease := api.Off; lease <= api.Rebinding; lease++ {
 		for _, kind := range []byte{0, 1, 2, 3, 4, 5, 6, 7, 8, 13, 130, 133, 134, 255} {
 			b := reach(t, lease)
 			kept := b.Look()
@@ -88,6 +92,10 @@ func TestKindsInEachLease(t *testing.T) {
 			case next == api.Off:
 				wantLook(t, b, "P7: a nak", api.Look{Now: kept.Now})
 				wantOut(t, b, "P7: a nak")
+			case next == api.Bound:
+				kept.Lease = api.Bound
+				wantLook(t, b, "P7: an ack of an old lease", kept)
+				wantOut(t, b, "P7: an ack of an old lease")
 			default:
 				wantLook(t, b, "P7: an answer", api.Look{Now: kept.Now, Lease: next})
 				wantOut(t, b, "P7: an answer", sent[next])
@@ -117,7 +125,10 @@ func TestAnswersOfAddressZero(t *testing.T) {
 var answered = []struct {
 	lease api.Lease
 	kind  byte
-}{{api.Selecting, offer}, {api.Requesting, ack}, {api.Requesting, nak}, {api.Bound, nak}}
+}{
+	{api.Selecting, offer}, {api.Requesting, ack}, {api.Requesting, nak}, {api.Bound, nak},
+	{api.Renewing, ack}, {api.Renewing, nak}, {api.Rebinding, ack}, {api.Rebinding, nak},
+}
 
 // wantLetBe: a frame does nothing in a lease; a right one behind it does.
 func wantLetBe(t *testing.T, what string, lease api.Lease, bad, right string) {
@@ -326,7 +337,13 @@ func TestAcks(t *testing.T) {
 	} {
 		l := told(ack, theXid)
 		change(&l)
-		wantLetBe(t, "P7: an ack with "+what, api.Requesting, l.frame(), told(ack, theXid).frame())
+		for _, lease := range []api.Lease{api.Requesting, api.Renewing, api.Rebinding} {
+			if lease == api.Rebinding && what == "another server" {
+				wantLookedAt(t, "P7: an ack of any server", lease, l.frame())
+			} else {
+				wantLetBe(t, "P7: an ack with "+what, lease, l.frame(), told(ack, theXid).frame())
+			}
+		}
 	}
 	for what, change := range map[string]func(l *letter){
 		"a time of 1":             func(l *letter) { *l = l.with(option(51, fourBytes(1))) },
@@ -348,13 +365,24 @@ func TestAcks(t *testing.T) {
 		comes(t, b, l.frame())
 		wantLook(t, b, "P7: an ack with "+what, api.Look{Now: 1, Lease: api.Probing})
 		wantOut(t, b, "P7: an ack with "+what, whoHas())
+		for _, lease := range []api.Lease{api.Renewing, api.Rebinding} {
+			b := reach(t, lease)
+			want := b.Look()
+			want.Lease = api.Bound
+			comes(t, b, l.frame())
+			wantLook(t, b, "P7: an ack of an old lease with "+what, want)
+			wantOut(t, b, "P7: an ack of an old lease with "+what)
+		}
 	}
 }
 
 func TestNaks(t *testing.T) {
 	other := told(nak, theXid).with(addressOption(54, otherIP))
-	for _, lease := range []api.Lease{api.Requesting, api.Bound} {
-		wantLetBe(t, "P7: a nak of another server", lease, other.frame(), told(nak, theXid).frame())
+	wantLookedAt(t, "P7: a nak of any server", api.Rebinding, other.frame())
+	for _, lease := range []api.Lease{api.Requesting, api.Bound, api.Renewing, api.Rebinding} {
+		if lease != api.Rebinding {
+			wantLetBe(t, "P7: a nak of another server", lease, other.frame(), told(nak, theXid).frame())
+		}
 		b := reach(t, lease)
 		now := b.Look().Now
 		bare := told(nak, theXid).without(51)
@@ -445,7 +473,7 @@ func TestNoConflicts(t *testing.T) {
 // Only while Probing does it matter who has the address.
 func TestConflictsInOtherLeases(t *testing.T) {
 	conflict := arpFrame(allCards, otherCard, api.ARP{Op: 2, FromMAC: otherCard, FromIP: myIP, ToIP: otherIP})
-	for _, lease := range []api.Lease{api.Off, api.Selecting, api.Requesting, api.Bound} {
+	for _, lease := range []api.Lease{api.Off, api.Selecting, api.Requesting, api.Bound, api.Renewing, api.Rebinding} {
 		b := reach(t, lease)
 		kept := b.Look()
 		comes(t, b, conflict)
@@ -535,7 +563,7 @@ func TestMachinesSideBySide(t *testing.T) {
 
 // Frames of any bytes, in each lease: nothing is sent, nothing becomes of them.
 func TestFramesOfAnyBytes(t *testing.T) {
-	for lease := api.Off; lease <= api.Bound; lease++ {
+	for lease := api.Off; lease <= api.Rebinding; lease++ {
 		b := reach(t, lease)
 		kept := b.Look()
 		toMe := string(myCard[:]) + string(otherCard[:])

@@ -212,16 +212,39 @@ func reach(t *testing.T, state api.Lease) *boot.Boot {
 		comes(t, b, told(offer, theXid).frame())
 	}
 	if state >= api.Probing {
-		comes(t, b, told(ack, theXid).frame())
+		comes(t, b, ackToReach(state).frame())
 	}
 	if state >= api.Bound {
 		ticks(b, 2, theXid)
+	}
+	if state >= api.Renewing {
+		b.Tick(theXid)
 	}
 	if l := b.Look(); l.Lease != state {
 		t.Fatalf("P7: the lease is %d, want %d", l.Lease, state)
 	}
 	allOut(b)
 	return b
+}
+
+// ackToReach: of a lease that is so far one tick behind Bound, if it may grow old so soon.
+func ackToReach(state api.Lease) letter {
+	switch state {
+	case api.Renewing:
+		return leaseOf(3600, 3, 3000)
+	case api.Rebinding:
+		return leaseOf(3600, 2, 3)
+	}
+	return told(ack, theXid)
+}
+
+// leaseOf: an ack for a time, with the times by which it is old and very old, if they are told.
+func leaseOf(time uint32, ages ...uint32) letter {
+	l := told(ack, theXid).with(option(51, fourBytes(time)))
+	for k, age := range ages {
+		l = l.with(option(uint8(58+k), fourBytes(age)))
+	}
+	return l
 }
 
 // reachFailed: a machine whose attempts are all over.

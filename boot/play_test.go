@@ -15,6 +15,8 @@ type network struct {
 	image         string
 	block, window int    // of the server of images; 0: it knows no options
 	router        bool   // the server of images is behind it
+	time          uint32 // of a lease; 0: an hour
+	renewed       int    // leases that were granted anew
 	port          uint16 // from which the image comes
 	acked         int    // blocks that the machine has
 	now           int    // ticks
@@ -31,6 +33,9 @@ func (n *network) imagesIP() api.IP {
 	return serverIP
 }
 
+// cardOf: a neighbour.
+func cardOf(ip api.IP) api.MAC { return api.MAC{2, 0, 0, 0, 1, byte(ip)} }
+
 // answers: to a frame of the machine.
 func (n *network) answers(frame string) []string {
 	f, _ := boot.ReadEther(frame)
@@ -40,7 +45,7 @@ func (n *network) answers(frame string) []string {
 	p, _ := boot.ReadIP(f.Load)
 	u, _ := boot.ReadUDP(p.Load, p.From, p.To)
 	if u.To == 67 {
-		return n.dhcp(u)
+		return n.dhcp(f, p, u)
 	}
 	return n.tftp(f, p, u)
 }
@@ -51,14 +56,23 @@ func (n *network) arp(f api.Ether) []string {
 	if a.Op != 1 || a.ToIP == myIP || a.ToIP == farIP {
 		return nil
 	}
-	return []string{tells(api.MAC{2, 0, 0, 0, 1, byte(a.ToIP)}, a.ToIP)}
+	return []string{tells(cardOf(a.ToIP), a.ToIP)}
 }
 
-func (n *network) dhcp(u api.UDP) []string {
+func (n *network) dhcp(f api.Ether, p api.IPv4, u api.UDP) []string {
 	d, _ := boot.ReadDHCP(u.Load)
 	answer := told(offer, d.Xid)
 	if d.Options[0].Data == "\x03" {
 		answer = told(ack, d.Xid).with(option(1, "\xff\xff\xff\x00"))
+	}
+	if p.To != toAllIP && (p.To != serverIP || f.To != cardOf(p.To)) {
+		return nil
+	}
+	if d.Client != 0 {
+		n.renewed++
+	}
+	if n.time != 0 {
+		answer = answer.with(option(51, fourBytes(n.time)))
 	}
 	if n.router {
 		answer = answer.with(addressOption(3, routerIP))
@@ -72,7 +86,7 @@ func (n *network) tftp(f api.Ether, p api.IPv4, u api.UDP) []string {
 	if n.router {
 		hop = routerIP
 	}
-	if f.To != (api.MAC{2, 0, 0, 0, 1, byte(hop)}) || p.To != n.imagesIP() || p.From != myIP {
+	if f.To != cardOf(hop) || p.To != n.imagesIP() || p.From != myIP {
 		return nil
 	}
 	m, _ := boot.ReadTFTP(u.Load)
@@ -170,10 +184,15 @@ func run(b *boot.Boot, n *network, w *way, most int) {
 }
 
 // step: a tick, and all that goes to and fro behind it.
-func step(b *boot.Boot, n *network, w *way, draw uint32) {
+func step(b *boot.Boot, n *network, w *way, draw uint32) { rounds(b, n, w, draw, 100) }
+
+// crawl: a tick, behind which each frame is answered once: what the machine sends to that goes at the next tick.
+func crawl(b *boot.Boot, n *network, w *way, draw uint32) { rounds(b, n, w, draw, 1) }
+
+func rounds(b *boot.Boot, n *network, w *way, draw uint32, most int) {
 	b.Tick(draw)
 	n.now++
-	for range 100 {
+	for range most {
 		var come []string
 		for _, f := range w.goes(allOut(b)) {
 			come = append(come, w.goes(n.answers(f))...)
@@ -335,6 +354,89 @@ func TestBootsSideBySide(t *testing.T) {
 	}
 	if n := strings.Count(strings.Join(images[:], ""), ""); n < 3000 {
 		t.Errorf("P9: the machines have %d bytes in all", n)
+	}
+}
+
+// Leases that are shorter than a boot, over a slow net: they are granted anew, and the image comes.
+func TestBootsOfShortLeases(t *testing.T) {
+	for _, router := range []bool{false, true} {
+		for _, time := range []uint32{8, 9, 15, 16, 17, 20, 40, 100} {
+			b := begin(t, slowly(sized(2000)))
+			n := &network{image: sized(2000), block: 8, window: 1, router: router, port: 3000, time: time, asked: map[api.IP]int{}}
+			for range 600 {
+				crawl(b, n, &way{}, 1)
+			}
+			wantImage(t, b, "P10: short leases", sized(2000))
+			if l := b.Look(); l.Boots != 0 || l.Lost != 0 || n.renewed < 250/int(time) {
+				t.Errorf("P10: leases of %d: %d were granted anew, Look() = %+v", time, n.renewed, l)
+			}
+		}
+	}
+}
+
+func slowly(image string) api.Config {
+	c := of(image)
+	c.Cap, c.Rx, c.Tx = 3000, 16, 16
+	return c
+}
+
+// The same over a net that loses and doubles frames: a lease may be over ahead of its time, which is no failure.
+func TestShortLeasesOverABadNet(t *testing.T) {
+	done, renewed := 0, 0
+	for k := range 120 {
+		image := sized(100 + 10*k)
+		b := begin(t, slowly(image))
+		n := &network{image: image, block: 8, window: 1 + k%2, router: k%3 == 0, port: 3000, time: uint32(8 + k%50), asked: map[api.IP]int{}}
+		w := badWay(k, k%20, k%7)
+		for now := 0; now < 3000 && b.Look().Phase < api.Done; now++ {
+			crawl(b, n, w, uint32(now*now+k))
+		}
+		renewed += n.renewed
+		if b.Look().Phase == api.Done {
+			wantImage(t, b, "P10: short leases over a bad net", image)
+			done++
+		}
+	}
+	if done < 60 || renewed < 300 {
+		t.Errorf("P10: of 120 boots over a bad net %d came to their end, %d leases were granted anew", done, renewed)
+	}
+}
+
+// oldFleet: machines with short leases of their own, each over a bad net of its own.
+func oldFleet(t *testing.T, k int) (*boot.Boot, *network, *way) {
+	image := sized(500 + 100*k)
+	n := &network{image: image, block: 8, window: 1 + k%2, router: k%2 == 1, port: 3000, time: uint32(8 + 5*k), asked: map[api.IP]int{}}
+	return begin(t, slowly(image)), n, badWay(k, k, 2*k)
+}
+
+// Machines whose leases grow old side by side do at each tick what each does alone.
+func TestOldLeasesSideBySide(t *testing.T) {
+	const steps = 500
+	var alone [8][steps]api.Look
+	var all sync.WaitGroup
+	for k := range alone {
+		all.Go(func() {
+			b, n, w := oldFleet(t, k)
+			for now := range steps {
+				crawl(b, n, w, uint32(now*k))
+				alone[k][now] = b.Look()
+			}
+		})
+	}
+	all.Wait()
+	var bs [8]*boot.Boot
+	var ns [8]*network
+	var ws [8]*way
+	for k := range bs {
+		bs[k], ns[k], ws[k] = oldFleet(t, k)
+	}
+	for now := range steps {
+		for k, b := range bs {
+			crawl(b, ns[k], ws[k], uint32(now*k))
+			if b.Look() != alone[k][now] {
+				t.Fatalf("P1: machine %d beside others: %+v, alone %+v", k, b.Look(), alone[k][now])
+			}
+		}
 	}
 }
 

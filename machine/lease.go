@@ -14,8 +14,9 @@ type lease struct {
 	address api.IP // that was offered
 	server  api.IP
 	wait    wait // of Selecting and Requesting
-	granted int  // when it was granted, which is when Probing began
+	granted int  // when it was granted, which, at first, is when Probing began
 	terms   terms
+	asked   int // when it was asked for, in Renewing and Rebinding
 }
 
 // isFrom: the server is the lease's; when that is silent, any will do.
@@ -33,6 +34,8 @@ func (m *Machine) tickLease() {
 			m.lease.state = api.Bound
 			m.askForImage()
 		}
+	case api.Bound, api.Renewing, api.Rebinding:
+		m.tickAge()
 	}
 }
 

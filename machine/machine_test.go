@@ -7,7 +7,7 @@ import (
 	"netboot/wire"
 )
 
-// What no call shows as yet: the terms of a lease, what comes to one that grows old, and a machine that is Done.
+// What is seen best from inside: the terms of a lease, what comes to one that grows old, and a machine that is Done.
 
 const (
 	server api.IP = 0x0a000001

@@ -8,7 +8,7 @@ import (
 	"netboot/wire"
 )
 
-// What no call shows as yet: several neighbours that are asked for at once, and who of them goes.
+// What is seen best from inside: several neighbours that are asked for at once, and who of them goes.
 
 func (m *Machine) datagramTo(addresses ...api.IP) {
 	for _, a := range addresses {
